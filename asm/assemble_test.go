@@ -1,6 +1,7 @@
 package asm
 
 import (
+	"maps"
 	"slices"
 	"strconv"
 	"testing"
@@ -171,6 +172,45 @@ func TestAssembleOfTooManyLines(t *testing.T) {
 	}
 	assembles(t, many[:api.MaxLines])
 	failsToAssemble(t, many, api.ErrMany, 0)
+}
+
+// Lines whose labels stand in other lines, too, are put together by these two.
+func TestPlacesOfLabels(t *testing.T) {
+	places, words, f := Places(read(t, "jmp b\na:\n.x:\nhalt\nc:\njmp a"))
+	if want := map[string]int{"a": 2, ".x": 2, "c": 3}; !maps.Equal(places, want) || words != 5 || f != (api.Fault{}) {
+		t.Errorf("%v, %d, %v comes, not %v", places, words, f, want)
+	}
+	for _, c := range []struct {
+		l    []api.Line
+		want api.Fault
+	}{
+		{make([]api.Line, api.MaxLines+1), api.Fault{Err: api.ErrMany}},
+		{[]api.Line{{}, label("A")}, api.Fault{Err: api.ErrName, At: 1}},
+		{[]api.Line{label("a"), {}, label("a")}, api.Fault{Err: api.ErrName, At: 2}},
+		{repeated(line(api.OpLdi, 0, 0, 0), api.MaxMem/2+1), api.Fault{Err: api.ErrMuch, At: api.MaxMem / 2}},
+	} {
+		if places, words, f := Places(c.l); places != nil || words != 0 || f != c.want {
+			t.Errorf("%v, %d, %v comes, not %v", places, words, f, c.want)
+		}
+	}
+}
+
+func TestLabelsThatOthersHave(t *testing.T) {
+	var asked []string
+	find := func(name string) (int, bool) {
+		asked = append(asked, name)
+		return 65536 + len(name), name != "none"
+	}
+	got, f := Resolve(read(t, "jmp bb\na:\nldi r1, 9\nldi r2, a\njmp bb"), find)
+	want := []api.Instr{{Op: api.OpJmp, Imm: 2}, {Op: api.OpLdi, D: 1, Imm: 9}, {Op: api.OpLdi, D: 2, Imm: 1}, {Op: api.OpJmp, Imm: 2}}
+	if !slices.Equal(got, want) || f != (api.Fault{}) || !slices.Equal(asked, []string{"bb", "a", "bb"}) {
+		t.Errorf("%v, %v comes, and %v is asked", got, f, asked)
+	}
+	asked = nil
+	got, f = Resolve(read(t, "jmp b\na:\njmp none\njmp c"), find)
+	if got != nil || f != (api.Fault{Err: api.ErrNone, At: 2}) || !slices.Equal(asked, []string{"b", "none"}) {
+		t.Errorf("%v, %v comes, and %v is asked", got, f, asked)
+	}
 }
 
 // The machine runs what is assembled: it tells as many letters as came in says, down to A.
