@@ -11,6 +11,12 @@ func Wrong(p api.Program) api.Errno {
 	return l.program(p)
 }
 
+// WrongExpr answers what is wrong with an expression that stands in no program, at depth 1.
+func WrongExpr(x api.Expr) api.Errno {
+	var l looker
+	return l.expression(x, 1)
+}
+
 // Nodes answers how many nodes a program has; if something is wrong, how many were come to until then, for such a one may have no end.
 func Nodes(p api.Program) int {
 	var l looker

@@ -96,7 +96,47 @@ func isWrongExpr(t *testing.T, x api.Expr, want api.Errno) {
 	}
 	for _, kid := range kidPlaces() {
 		isWrong(t, body(expr(kid(x))), want)
+		if got := WrongExpr(kid(x)); got != want {
+			t.Errorf("WrongExpr(%+v): %d comes, not %d", kid(x), got, want)
+		}
 	}
+}
+
+// ofNodes is an expression of that many nodes.
+func ofNodes(n int) api.Expr {
+	switch n {
+	case 1:
+		return num(1)
+	case 2:
+		return one(api.CNeg, num(1))
+	}
+	return two(api.CAdd, ofNodes((n-1)/2), ofNodes(n-1-(n-1)/2))
+}
+
+// TestExpressionsThatStandAlone: as deep as a program, and with as many nodes.
+func TestExpressionsThatStandAlone(t *testing.T) {
+	holds := func(x api.Expr, want api.Errno) {
+		t.Helper()
+		if got := WrongExpr(x); got != want {
+			t.Errorf("%d comes, not %d", got, want)
+		}
+	}
+	deep := num(1)
+	for range api.MaxShape - 1 {
+		deep = one(api.CNeg, deep)
+	}
+	holds(deep, api.OK)
+	holds(deep.Kids[0], api.OK)
+	holds(one(api.CNot, deep), api.ErrMuch)
+
+	holds(ofNodes(api.MaxNodes-1), api.OK)
+	holds(ofNodes(api.MaxNodes), api.OK)
+	holds(ofNodes(api.MaxNodes+1), api.ErrMuch)
+
+	itself := make([]api.Expr, 2)
+	itself[0] = two(api.CAdd, num(1), num(2))
+	itself[1] = api.Expr{Kind: api.CAdd, Kids: itself}
+	holds(itself[1], api.ErrMuch)
 }
 
 func TestExpressionsThatAreRight(t *testing.T) {
