@@ -31,7 +31,8 @@ func TestLimits(t *testing.T) {
 			l := make([]api.Job, jobs)
 			spoil(l, j)
 			if d, err := All(l, workers); err != want || len(d) != 0 {
-				t.Errorf("%d and %v come, not %v, of %d jobs and %d workers", len(d), err, want, jobs, workers)
+				// Far more workers still, if they were not refused either, would take all memory.
+				t.Fatalf("%d and %v come, not %v, of %d jobs and %d workers", len(d), err, want, jobs, workers)
 			}
 		}
 	}
